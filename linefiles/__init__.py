@@ -1,0 +1,1 @@
+"""Files sent over a line that may lose and damage bytes: one end of it."""
