@@ -3,6 +3,7 @@
 from linefiles.packets import NUMBERS
 from linefiles.ways import first_force
 
+IDLE = 0
 SENDING = 1
 RECEIVING = 2
 DONE = 3
@@ -24,14 +25,6 @@ def number_before(number):
 def is_late(now, since, patience):
     gone = (now - since) % CLOCK_TURN
     return patience <= gone < CLOCK_HALF
-
-
-class Line:
-    def __init__(self):
-        self.waiting = []
-
-    def put(self, packet):
-        self.waiting.extend(packet)
 
 
 class Transfer:

@@ -2,7 +2,7 @@
 
 from linefiles.ends import End, answers
 
-SENDING, RECEIVING, DONE, FAILED = 1, 2, 3, 4
+IDLE, SENDING, RECEIVING, DONE, FAILED = 0, 1, 2, 3, 4
 
 PLAIN = [94, 5, 0, 1, 0]
 FULL = [94, 5, 1, 3, 1]
@@ -60,13 +60,13 @@ def begun(own=PLAIN):
 
 
 def sent(end):
-    octets = list(end.line.waiting)
-    end.line.waiting.clear()
-    return octets
+    given = end.output(65536)
+    assert given[0] == len(given) - 1
+    return given[1:]
 
 
 def state(end):
-    return 0 if end.transfer is None else end.transfer.state
+    return end.told()[1]
 
 
 def come(end, *packets, now=0):
@@ -119,8 +119,57 @@ def call_input(octets, now=0):
     return [3, now, len(octets)] + list(octets)
 
 
-def told_answers(*calls):
-    """What each of these calls answers, the counts before them checked and left out."""
-    given = answers([number for call in calls for number in call])
-    assert given[0::2] == [1] * len(calls), given
-    return given[1::2]
+def call_tick(now=0):
+    return [4, now]
+
+
+def call_output(room=65536):
+    return [5, room]
+
+
+def call_told():
+    return [6]
+
+
+def call_file(k=255, room=524288):
+    return [7, k, room]
+
+
+def split_answers(given):
+    """What each call answers, a list each, the counts before them left out."""
+    split = []
+    place = 0
+    while place < len(given):
+        many = given[place]
+        assert many >= 1 and place + many < len(given), given
+        split.append(given[place + 1:place + 1 + many])
+        place += 1 + many
+    return split
+
+
+def each_answer(*calls):
+    split = split_answers(answers([one for call in calls for one in call]))
+    assert len(split) == len(calls), split
+    return split
+
+
+class Replayed:
+    """An end that is reached by answers alone: each call is put behind those before it, all are answered anew."""
+
+    def __init__(self, own=PLAIN):
+        self.calls = []
+        self.count = 0
+        assert self.call(call_begin(own)) == [0]
+
+    def call(self, one):
+        self.calls = self.calls + one
+        self.count += 1
+        assert len(self.calls) <= 31000 and self.count <= 300
+        return split_answers(answers(self.calls))[-1]
+
+
+def lone_answers(*calls):
+    """The one number that each of these calls answers."""
+    split = each_answer(*calls)
+    assert [len(one) for one in split] == [1] * len(calls), split
+    return [one[0] for one in split]

@@ -1,7 +1,7 @@
 import unittest
 
 from tests.helper import (PLAIN, FULL, RECEIVING, SENDING, begun, call_begin, call_input, call_send, call_wait, come,
-                          packet, sender, sent, state, told_answers, waiter, ways)
+                          packet, sender, sent, state, lone_answers, waiter, ways)
 
 LIMITS = [(10, 94), (1, 94), (0, 1), (1, 3), (0, 1)]
 
@@ -17,7 +17,7 @@ class BeginTest(unittest.TestCase):
         for place, (lowest, highest) in enumerate(LIMITS):
             for number in (lowest, highest):
                 with self.subTest(place=place, number=number):
-                    self.assertEqual(told_answers(call_begin(with_number(place, number))), [0])
+                    self.assertEqual(lone_answers(call_begin(with_number(place, number))), [0])
 
     def test_each_number_just_outside(self):
         for place, (lowest, highest) in enumerate(LIMITS):
@@ -25,11 +25,11 @@ class BeginTest(unittest.TestCase):
                 if number < 0:
                     continue
                 with self.subTest(place=place, number=number):
-                    given = told_answers(call_begin(), call_begin(with_number(place, number)))
+                    given = lone_answers(call_begin(), call_begin(with_number(place, number)))
                     self.assertEqual(given, [0, -2])
 
     def test_all_lowest_and_all_highest(self):
-        self.assertEqual(told_answers(call_begin([10, 1, 0, 1, 0]), call_begin([94, 94, 1, 3, 1])), [0, 0])
+        self.assertEqual(lone_answers(call_begin([10, 1, 0, 1, 0]), call_begin([94, 94, 1, 3, 1])), [0, 0])
 
     def test_refused_begin_changes_nothing_while_sending(self):
         end = sender("a", "x")
@@ -61,12 +61,12 @@ class BeginTest(unittest.TestCase):
 
     def test_refused_begin_leaves_sending_and_receiving_busy(self):
         refused = call_begin([95, 5, 0, 1, 0])
-        self.assertEqual(told_answers(call_begin(), call_send(), refused, call_wait()), [0, 0, -2, -3])
-        self.assertEqual(told_answers(call_begin(), call_wait(), refused, call_send()), [0, 0, -2, -3])
+        self.assertEqual(lone_answers(call_begin(), call_send(), refused, call_wait()), [0, 0, -2, -3])
+        self.assertEqual(lone_answers(call_begin(), call_wait(), refused, call_send()), [0, 0, -2, -3])
 
     def test_begin_again_makes_it_idle(self):
-        self.assertEqual(told_answers(call_begin(), call_send(), call_begin(), call_wait()), [0, 0, 0, 0])
-        self.assertEqual(told_answers(call_begin(), call_wait(), call_begin(), call_send()), [0, 0, 0, 0])
+        self.assertEqual(lone_answers(call_begin(), call_send(), call_begin(), call_wait()), [0, 0, 0, 0])
+        self.assertEqual(lone_answers(call_begin(), call_wait(), call_begin(), call_send()), [0, 0, 0, 0])
 
     def test_begin_again_takes_what_was_sent_away(self):
         end = begun()
@@ -102,7 +102,7 @@ class BeginTest(unittest.TestCase):
         end = begun()
         self.assertEqual(come(end, packet(0, "S", ways())), [])
         self.assertEqual(state(end), 0)
-        self.assertEqual(told_answers(call_begin(), call_input(packet(0, "S")), call_wait()), [0, 0, 0])
+        self.assertEqual(lone_answers(call_begin(), call_input(packet(0, "S")), call_wait()), [0, 0, 0])
 
 
 if __name__ == "__main__":

@@ -1,7 +1,7 @@
 import unittest
 
 from tests.helper import (DONE, FAILED, RECEIVING, begun, broken, call_begin, call_input, call_send, call_wait, come,
-                          packet, sender, sender_at_f, sent, state, told_answers, waiter, waiter_at_f, ways)
+                          packet, sender, sender_at_f, sent, state, lone_answers, waiter, waiter_at_f, ways)
 
 ANSWER = packet(0, "Y", ways())
 NAMED = packet(1, "F", "a")
@@ -137,7 +137,7 @@ class NotLookedAtTest(unittest.TestCase):
 
     def test_done_by_answers(self):
         transfer = packet(0, "S", ways()) + packet(1, "B")
-        self.assertEqual(told_answers(call_begin(), call_wait(), call_input(transfer), call_input(transfer),
+        self.assertEqual(lone_answers(call_begin(), call_wait(), call_input(transfer), call_input(transfer),
                                       call_send()), [0, 0, 0, 0, 0])
 
 
@@ -155,7 +155,7 @@ class RefusedTest(unittest.TestCase):
         self.assertEqual(sent(end), [])
 
     def test_most_that_answers_takes(self):
-        self.assertEqual(told_answers(call_begin(), call_send(), call_input([255] * 30000)), [0, 0, 0])
+        self.assertEqual(lone_answers(call_begin(), call_send(), call_input([255] * 30000)), [0, 0, 0])
 
 
 if __name__ == "__main__":

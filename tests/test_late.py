@@ -1,7 +1,7 @@
 import unittest
 
 from tests.helper import (FAILED, SENDING, begun, call_begin, call_input, call_send, call_wait, come, packet, sender,
-                          sender_at_f, state, told_answers, waiter, waiter_at_f, ways)
+                          sender_at_f, state, lone_answers, waiter, waiter_at_f, ways)
 
 TURN = 2 ** 32
 HALF = 2 ** 31
@@ -88,7 +88,7 @@ class LateTest(unittest.TestCase):
 
     def test_by_answers(self):
         late = [call_input([], now=step * 10000) for step in range(1, 11)]
-        self.assertEqual(told_answers(call_begin(), call_send(), *late, call_input([], 109999), call_wait(),
+        self.assertEqual(lone_answers(call_begin(), call_send(), *late, call_input([], 109999), call_wait(),
                                       call_input([], 110000), call_wait()), [0] * 13 + [-3, 0, 0])
 
 

@@ -1,7 +1,7 @@
 import unittest
 
 from tests.helper import (DONE, FAILED, FULL, FULL_WAYS, RECEIVING, broken, call_begin, call_input, call_send,
-                          call_wait, come, octets_of, packet, state, told_answers, waiter, waiter_at_f, ways)
+                          call_wait, come, octets_of, packet, state, lone_answers, waiter, waiter_at_f, ways)
 
 MOST = 524288
 
@@ -90,7 +90,7 @@ class WholeTest(unittest.TestCase):
     def test_by_answers(self):
         whole = [packet(0, "S", ways()), packet(1, "F", "n"), packet(2, "Z"), packet(3, "B")]
         calls = [call_input(one) for one in whole]
-        self.assertEqual(told_answers(call_begin(), call_wait(), *calls[:3], call_send(), calls[3], call_send()),
+        self.assertEqual(lone_answers(call_begin(), call_wait(), *calls[:3], call_send(), calls[3], call_send()),
                          [0, 0, 0, 0, 0, -3, 0, 0])
 
 
@@ -229,7 +229,7 @@ class TenTimesTest(unittest.TestCase):
         self.assertEqual(state(end), FAILED)
 
     def test_by_answers(self):
-        self.assertEqual(told_answers(call_begin(), call_wait(), call_input(broken() * 10), call_wait(),
+        self.assertEqual(lone_answers(call_begin(), call_wait(), call_input(broken() * 10), call_wait(),
                                       call_input(broken()), call_wait()), [0, 0, 0, -3, 0, 0])
 
 
@@ -308,7 +308,7 @@ class WrongDataTest(unittest.TestCase):
 
     def test_by_answers(self):
         calls = [call_begin(), call_wait(), call_input(packet(0, "S", ways())), call_input(packet(1, "F"))]
-        self.assertEqual(told_answers(*calls, call_wait()), [0, 0, 0, 0, 0])
+        self.assertEqual(lone_answers(*calls, call_wait()), [0, 0, 0, 0, 0])
 
 
 class ErrorTest(unittest.TestCase):

@@ -1,13 +1,13 @@
 import unittest
 
 from tests.helper import (DONE, FAILED, FULL, PLAIN, RECEIVING, SENDING, begun, call_begin, call_input, call_send,
-                          call_wait, come, packet, sender, sender_at_f, sent, state, told_answers, waiter,
+                          call_wait, come, packet, sender, sender_at_f, sent, state, lone_answers, waiter,
                           waiter_at_f, ways)
 
 
 class SendTest(unittest.TestCase):
     def test_answers_zero(self):
-        self.assertEqual(told_answers(call_begin(), call_send(content="bytes")), [0, 0])
+        self.assertEqual(lone_answers(call_begin(), call_send(content="bytes")), [0, 0])
 
     def test_s_byte_by_byte(self):
         end = begun([94, 5, 1, 3, 1])
@@ -60,8 +60,8 @@ class SendTest(unittest.TestCase):
         self.assertEqual(come(end, answer[5:]), packet(1, "F", "a"))
 
     def test_refused_by_answers(self):
-        self.assertEqual(told_answers(call_begin(), call_send(), call_send(), call_wait()), [0, 0, -3, -3])
-        self.assertEqual(told_answers(call_begin(), call_wait(), call_send(), call_wait()), [0, 0, -3, -3])
+        self.assertEqual(lone_answers(call_begin(), call_send(), call_send(), call_wait()), [0, 0, -3, -3])
+        self.assertEqual(lone_answers(call_begin(), call_wait(), call_send(), call_wait()), [0, 0, -3, -3])
 
     def test_again_after_done(self):
         end, out = sender_at_f("a", "", FULL, ways(high="Y", kind="3", repeats="~"))
@@ -100,7 +100,7 @@ class SendTest(unittest.TestCase):
 
     def test_again_by_answers(self):
         fail = call_input(packet(0, "E"))
-        self.assertEqual(told_answers(call_begin(), call_send(), fail, call_send(), fail, call_wait(), fail,
+        self.assertEqual(lone_answers(call_begin(), call_send(), fail, call_send(), fail, call_wait(), fail,
                                       call_wait()), [0] * 8)
 
     def failed_with_half_an_e(self):
@@ -127,7 +127,7 @@ class SendTest(unittest.TestCase):
 
 class WaitTest(unittest.TestCase):
     def test_answers_zero_and_sends_nothing(self):
-        self.assertEqual(told_answers(call_begin(), call_wait()), [0, 0])
+        self.assertEqual(lone_answers(call_begin(), call_wait()), [0, 0])
         end = begun()
         end.wait(0)
         self.assertEqual(sent(end), [])

@@ -1,7 +1,7 @@
 import unittest
 
 from tests.helper import (DONE, FAILED, FULL, FULL_WAYS, PLAIN, SENDING, broken, call_begin, call_input, call_send,
-                          call_wait, come, packet, sender, sender_at_f, state, told_answers, ways)
+                          call_wait, come, packet, sender, sender_at_f, state, lone_answers, ways)
 
 FIRST = packet(0, "S", ways())
 
@@ -78,7 +78,7 @@ class WholeTest(unittest.TestCase):
 
     def test_by_answers(self):
         given = [call_input(packet(number, "Y", ways() if number == 0 else "")) for number in range(5)]
-        self.assertEqual(told_answers(call_begin(), call_send(0, "n", "x"), *given[:4], call_wait(), given[4],
+        self.assertEqual(lone_answers(call_begin(), call_send(0, "n", "x"), *given[:4], call_wait(), given[4],
                                       call_wait()), [0, 0, 0, 0, 0, 0, -3, 0, 0])
 
 
@@ -191,7 +191,7 @@ class TenTimesTest(unittest.TestCase):
 
     def test_by_answers(self):
         ten = call_input(broken() * 10)
-        self.assertEqual(told_answers(call_begin(), call_send(), ten, call_wait(), call_input(broken()), call_wait()),
+        self.assertEqual(lone_answers(call_begin(), call_send(), ten, call_wait(), call_input(broken()), call_wait()),
                          [0, 0, 0, -3, 0, 0])
 
 
